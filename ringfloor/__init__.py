@@ -1,0 +1,1 @@
+"""Ringfloor: webs drawn on a floor that closes on itself both ways."""

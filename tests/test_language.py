@@ -1,0 +1,177 @@
+"""The rules of LANGUAGE.md that a look at the package's files can see, and the names of the interface."""
+
+import ast
+import builtins
+import importlib
+import inspect
+import pathlib
+import unittest
+
+PACKAGE = pathlib.Path(__file__).resolve().parent.parent / "ringfloor"
+
+INTERFACE = {
+    "errors": {},
+    "webs": {"web_of": ["many", "pairs"], "near_places": ["web"], "ways_of": ["web"]},
+    "pieces": {"web_parts": ["web"], "web_blocks": ["web"], "web_girth": ["web"]},
+    "webtext": {"show_web": ["web"], "read_web": ["text"]},
+    "drawings": {"drawing_of": ["rows"], "drawn": ["web", "orders"], "orders_of": ["drawing"],
+                 "web_beneath": ["drawing"]},
+}
+
+BUILTINS = """len range enumerate zip min max sum abs sorted reversed int str bool list tuple dict set isinstance ord
+    repr any all divmod ValueError super""".split()
+METHODS = """append clear copy count endswith extend find get index insert isalnum isalpha isdigit islower isspace
+    isupper items join keys ljust lower lstrip partition pop remove replace reverse rfind rjust rpartition rsplit
+    rstrip setdefault split splitlines startswith strip update upper values zfill bit_length isascii add discard
+    sort""".split()
+# What the subset has, but this package does without, is barred here too: so fewer rules need a look.
+BARRED = (ast.AsyncFunctionDef, ast.Global, ast.Nonlocal, ast.Await, ast.Yield, ast.YieldFrom, ast.With, ast.Try,
+          ast.TryStar, ast.Match, ast.Div, ast.MatMult, ast.Pow, ast.Starred, ast.NamedExpr, ast.GeneratorExp,
+          ast.AnnAssign, ast.Assert, ast.Import)
+WORDS = """type typing enum Enum Flag Generic Protocol ABC namedtuple register mro elements open input law eval exec
+    compile globals locals vars dir id exit quit help""".split()
+
+
+def files():
+    return sorted(PACKAGE.glob("*.py"))
+
+
+def trees():
+    for path in files():
+        yield path, ast.parse(path.read_text(encoding="ascii"))
+
+
+def bound_names(tree):
+    """What the file gives a meaning: names, parameters, functions, classes, imports."""
+    for node in ast.walk(tree):
+        if isinstance(node, (ast.FunctionDef, ast.ClassDef)):
+            yield node.name
+        elif isinstance(node, ast.arg):
+            yield node.arg
+        elif isinstance(node, ast.Name) and isinstance(node.ctx, ast.Store):
+            yield node.id
+        elif isinstance(node, ast.alias):
+            yield node.asname or node.name
+
+
+def top_names(tree):
+    names = []
+    for node in tree.body:
+        if isinstance(node, ast.ImportFrom):
+            names.extend(alias.name for alias in node.names)
+        elif isinstance(node, (ast.FunctionDef, ast.ClassDef)):
+            names.append(node.name)
+        elif isinstance(node, ast.Assign):
+            names.extend(target.id for target in node.targets)
+    return names
+
+
+class Files(unittest.TestCase):
+    def test_the_folder_holds_plain_files_alone(self):
+        names = [path.name for path in PACKAGE.iterdir() if path.name != "__pycache__"]
+        self.assertEqual(sorted(names), [path.name for path in files()])
+        self.assertIn("__init__.py", names)
+        for name in names:
+            self.assertEqual(name, name.lower())
+
+    def test_sizes_and_signs(self):
+        for path in files():
+            text = path.read_bytes().decode("ascii")
+            self.assertTrue(all(sign == "\n" or " " <= sign <= "~" for sign in text), path)
+            lines = text.split("\n")
+            self.assertLessEqual(len(lines), 400, path)
+            self.assertLessEqual(max(map(len, lines)), 120, path)
+
+    def test_functions_are_small(self):
+        for path, tree in trees():
+            for node in ast.walk(tree):
+                if isinstance(node, ast.FunctionDef):
+                    self.assertLessEqual(node.end_lineno - node.lineno + 1, 40, (path, node.name))
+
+    def test_the_first_file_binds_nothing(self):
+        tree = ast.parse((PACKAGE / "__init__.py").read_text())
+        self.assertEqual([node for node in tree.body if not isinstance(node, ast.Expr)], [])
+
+
+class Language(unittest.TestCase):
+    def test_module_level(self):
+        allowed = (ast.ImportFrom, ast.FunctionDef, ast.ClassDef, ast.Assign)
+        for path, tree in trees():
+            self.assertTrue(ast.get_docstring(tree), path)
+            for node in tree.body[1:]:
+                self.assertIsInstance(node, allowed, path)
+                if isinstance(node, ast.Assign):
+                    self.assertIsInstance(node.value, ast.Constant, path)
+                    self.assertEqual(len(node.targets), 1, path)
+            names = top_names(tree)
+            self.assertEqual(len(names), len(set(names)), path)
+
+    def test_imports_name_the_file_that_defines(self):
+        defined = {path.stem: [node.name for node in tree.body if isinstance(node, (ast.FunctionDef, ast.ClassDef))]
+                   + [node.targets[0].id for node in tree.body if isinstance(node, ast.Assign)]
+                   for path, tree in trees()}
+        for path, tree in trees():
+            for node in ast.walk(tree):
+                if isinstance(node, ast.ImportFrom):
+                    self.assertIn(node, tree.body, path)
+                    self.assertEqual(node.level, 0, path)
+                    self.assertTrue(node.module.startswith("ringfloor."), path)
+                    for alias in node.names:
+                        self.assertIsNone(alias.asname, path)
+                        self.assertIn(alias.name, defined[node.module.split(".")[1]], path)
+
+    def test_no_two_files_import_from_each_other(self):
+        behind = {path.stem: {node.module.split(".")[1] for node in tree.body if isinstance(node, ast.ImportFrom)}
+                  for path, tree in trees()}
+        while behind:
+            free = [name for name in behind if not behind[name] & set(behind)]
+            self.assertTrue(free, behind)
+            for name in free:
+                del behind[name]
+
+    def test_no_statement_or_sign_that_is_barred(self):
+        for path, tree in trees():
+            for node in ast.walk(tree):
+                self.assertNotIsInstance(node, BARRED, (path, getattr(node, "lineno", 0)))
+                self.assertFalse(getattr(node, "decorator_list", []), path)
+                if isinstance(node, ast.Constant):
+                    self.assertNotIsInstance(node.value, (float, complex, bytes), path)
+
+    def test_names(self):
+        for path, tree in trees():
+            imported = [alias.name for node in tree.body if isinstance(node, ast.ImportFrom) for alias in node.names]
+            inner = [name for node in tree.body if not isinstance(node, ast.ImportFrom) for name in bound_names(node)]
+            for name in inner:
+                self.assertNotIn(name, imported, path)
+                if name not in ("_", "__init__"):
+                    self.assertFalse(hasattr(builtins, name), (path, name))
+                    self.assertNotIn(name, WORDS, path)
+                    self.assertFalse(name.startswith("_"), (path, name))
+
+    def test_calls_of_builtins_and_methods(self):
+        for path, tree in trees():
+            for node in ast.walk(tree):
+                if isinstance(node, ast.Name) and hasattr(builtins, node.id):
+                    self.assertIn(node.id, BUILTINS, (path, node.lineno))
+                if isinstance(node, ast.Call) and isinstance(node.func, ast.Attribute):
+                    self.assertIn(node.func.attr, METHODS + ["__init__"], (path, node.lineno))
+
+    def test_strings(self):
+        for path, tree in trees():
+            for node in ast.walk(tree):
+                if isinstance(node, ast.Constant) and isinstance(node.value, str):
+                    self.assertNotIn("%", node.value, (path, node.lineno))
+
+
+class Interface(unittest.TestCase):
+    def test_each_function_is_defined_in_its_file_with_its_arguments(self):
+        for name, functions in INTERFACE.items():
+            module = importlib.import_module("ringfloor." + name)
+            for function, arguments in functions.items():
+                found = getattr(module, function)
+                self.assertEqual(found.__module__, "ringfloor." + name)
+                self.assertEqual(list(inspect.signature(found).parameters), arguments)
+
+
+if __name__ == "__main__":
+    unittest.main()
