@@ -16,6 +16,11 @@ INTERFACE = {
     "webtext": {"show_web": ["web"], "read_web": ["text"]},
     "drawings": {"drawing_of": ["rows"], "drawn": ["web", "orders"], "orders_of": ["drawing"],
                  "web_beneath": ["drawing"]},
+    "lands": {"lands_of": ["drawing"], "parts_of": ["drawing"], "holes_of": ["drawing"]},
+    "tying": {"taken": ["drawing", "tie"], "shrunk": ["drawing", "tie"]},
+    "rowtext": {"show_rows": ["drawing"], "read_rows": ["text"]},
+    "flat": {"flat_orders": ["web"]},
+    "heaps": {"barring": ["web"]},
 }
 
 BUILTINS = """len range enumerate zip min max sum abs sorted reversed int str bool list tuple dict set isinstance ord
