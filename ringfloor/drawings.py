@@ -81,6 +81,14 @@ def behind_of(drawing):
     return behind
 
 
+def ring_from(behind, end):
+    """The ends at the end's place, with the clock, begun with it."""
+    ring = [end]
+    while behind[ring[-1]] != end:
+        ring.append(behind[ring[-1]])
+    return ring
+
+
 def begun_least(row):
     """The same ring as a new row, begun with its least end."""
     if not row:

@@ -8,6 +8,11 @@ def web_parts(web):
     return groups(near_places(web), list(range(web[0])))
 
 
+def parts_with_ties(web):
+    """For each part of the web its places and its ties."""
+    return [(part, [tie for tie in web[1] if tie[0] in part]) for part in web_parts(web)]
+
+
 def web_blocks(web):
     """The blocks of the web, as lists of ties."""
     many, ties = web
