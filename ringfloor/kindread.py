@@ -2,7 +2,7 @@
 
 from ringfloor.drawings import behind_of, mate_of, ring_from
 from ringfloor.errors import NoEnd, NoKind
-from ringfloor.kinds import FOURS_CLOCK, THREES_CLOCK
+from ringfloor.kinds import FOURS_CLOCK, THREES_CLOCK, UP_SLOT
 from ringfloor.lands import lands_of, parts_of
 
 
@@ -53,7 +53,7 @@ def straight_line(behind, first, size):
 
 def upper_right(behind, right, clock):
     """The right end of the upper place of the one whose right end is told."""
-    up = ring_from(behind, right)[clock.index(2)]
+    up = ring_from(behind, right)[clock.index(UP_SLOT)]
     # On either clock right stands just ahead of down, the mate of that up.
     return ring_from(behind, mate_of(up))[-1]
 

@@ -11,6 +11,8 @@ from ringfloor.errors import NoNumbers
 
 MOST_KIND_PLACES = 40
 
+UP_SLOT = 2
+
 # The slots round each place, with the clock, begun with right and down.
 FOURS_CLOCK = (0, 3, 1, 2)
 THREES_CLOCK = (0, 3, 5, 1, 2, 4)

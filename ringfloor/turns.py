@@ -15,11 +15,11 @@ def turn_over(drawing, turn):
     # is lacking lies along the round itself, which adds nothing to the crossing.
     homes = homes_of(drawing)
     places = [homes[end] for end in turn]
-    begin = places.index(homes[mate_of(way[-1])])
-    end = places.index(homes[way[0]])
-    if begin <= end:
-        return way + turn[begin:end]
-    return way + turn[begin:] + turn[:end]
+    start = places.index(homes[mate_of(way[-1])])
+    goal = places.index(homes[way[0]])
+    if start <= goal:
+        return way + turn[start:goal]
+    return way + turn[start:] + turn[:goal]
 
 
 def pair_of(drawing):

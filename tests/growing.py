@@ -3,7 +3,7 @@
 import itertools
 import random
 
-from checks import homes, least_first, tie_places
+from checks import homes, least_first
 
 
 def count_rings(rows):
@@ -148,8 +148,3 @@ def great_grown():
     yield grown(chance, 1, 120, 1)
     yield grown(chance, 40, 119, 30)
     yield beside(chance, [grown(chance, 20, 60, 1), grown(chance, 30, 40, 0), [[]], grown(chance, 3, 20, 2)])
-
-
-def loops_at(drawing):
-    """The ties that are loops."""
-    return [tie for tie, (one, other) in enumerate(tie_places(drawing)) if one == other]

@@ -118,7 +118,7 @@ class Glued(unittest.TestCase):
         chance = random.Random(315)
         parts = []
         for _ in range(80):
-            pieces = [grown(chance, chance.randint(1, 5), chance.randint(7, 10), chance.randint(0, 1)) for _ in range(2)]
+            pieces = [grown(chance, chance.randint(1, 5), chance.randint(7, 10), holes) for holes in (0, 1)]
             drawing = chance.choice([pieces[0], beside(chance, pieces + [[[]]])])
             ones, others = self.edges_told(chance, drawing)
             for one in ones:

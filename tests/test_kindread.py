@@ -99,7 +99,8 @@ class Read(unittest.TestCase):
 
     def test_of_more_than_forty_places(self):
         chance = random.Random(263)
-        for numbers in ((1, 41, 40), (41, 1, 0), (6, 7, 3), (5, 20, 19), (25, 5, 2), (1, 125, 57), (125, 1, 0), (11, 11, 4)):
+        for numbers in ((1, 41, 40), (41, 1, 0), (6, 7, 3), (5, 20, 19), (25, 5, 2), (1, 125, 57), (125, 1, 0),
+                        (11, 11, 4)):
             drawing, names = named_anew(chance, made_kind("fours", *numbers))
             self.assertEqual(read_kind(drawing, names[0]), ("fours", *numbers, names))
             for _ in range(4):

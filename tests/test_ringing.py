@@ -142,7 +142,8 @@ class RingOrders(unittest.TestCase):
                 check_refused(self, TooMany, ring_orders, numbered_anew(chance, web))
 
     def test_the_bar_by_counts_goes_ahead_of_too_many_ways(self):
-        for web in (full_web(8), full_web(9), full_web(12), sides(4, 5), sides(6, 6), hung_at(full_web(8), full_web(5), 2)):
+        eight = full_web(8)
+        for web in (eight, full_web(9), full_web(12), sides(4, 5), sides(6, 6), hung_at(eight, full_web(4), 2)):
             self.assertGreater(ways_of(web), 1024)
             self.assertIsNone(ring_orders(web))
 
@@ -151,7 +152,8 @@ class RingOrders(unittest.TestCase):
         ladder = ladder_crossed(5)
         # The block has 1,024 ways, the webs around it more; its ways are looked through all the same.
         for web in (hung_at(ladder, full_web(3), 0), hung_at(full_web(3), ladder, 1), hung_at(PETERSEN, full_web(3), 9),
-                    hung_at(hung_at(ladder, (2, [(0, 1)]), 4), (2, [(0, 1)]), 4), hung_at(ladder_crossed(4), full_web(4), 3)):
+                    hung_at(hung_at(ladder, (2, [(0, 1)]), 4), (2, [(0, 1)]), 4),
+                    hung_at(ladder_crossed(4), full_web(4), 3)):
             self.assertGreater(ways_of(web), 1024)
             for _ in range(3):
                 self.check_drawn(numbered_anew(chance, web))

@@ -2,8 +2,7 @@
 
 import random
 
-from checks import (BELOW, BEYOND, all_lists, homes, hung_together, least_first, some_drawings, tie_places,
-                    walked_lands)
+from checks import BELOW, BEYOND, homes, hung_together, least_first, some_drawings, tie_places, walked_lands
 from growing import beside, grown, kind_numbers, named_anew, some_grown, some_mixed
 from ringfloor.kinds import fours, threes
 
@@ -246,13 +245,6 @@ def no_rounds(chance, drawing):
     if turn:
         yield turn + turn
         yield turn + [turn[0]]
-
-
-def same_kept(case, told, kept):
-    """That a told value shares no list with what is kept."""
-    marks = [id(one) for one in all_lists(kept)]
-    for one in all_lists(told):
-        case.assertNotIn(id(one), marks)
 
 
 def great_walking():
