@@ -9,7 +9,11 @@ def tree_rounds(drawing):
     A walk whose crossing by each of these is 0 has the crossing 0 by all walks.
     """
     homes = homes_of(drawing)
-    came = tree_of(drawing, homes)
+    return rounds_beside(homes, tree_of(drawing, homes, list(range(len(drawing)))))
+
+
+def rounds_beside(homes, came):
+    """A round for each tie that is not in the tree: that tie, and back along the tree."""
     in_tree = {end // 2: True for end in came.values()}
     rounds = []
     for end in range(0, len(homes), 2):
@@ -18,11 +22,11 @@ def tree_rounds(drawing):
     return rounds
 
 
-def tree_of(drawing, homes):
-    """For each place but the first one of each part the end that leads to it from nearer the first."""
+def tree_of(drawing, homes, starts):
+    """For each place but the first start of each part the end that leads to it from nearer that start."""
     came = {}
     seen = {}
-    for start in range(len(drawing)):
+    for start in starts:
         line = [] if start in seen else [start]
         seen[start] = True
         at = 0
@@ -50,7 +54,7 @@ def tree_way(homes, came, start, goal):
 
 
 def way_down(homes, came, place):
-    """The ends by which one goes along the tree from the first place of the part to this one."""
+    """The ends by which one goes along the tree from the start of the part to this place."""
     way = []
     here = place
     while here in came:

@@ -32,6 +32,11 @@ INTERFACE = {
     "gluing": {"glued": ["drawing", "ones", "others"]},
     "fills": {"fill_of": ["drawing", "walk"]},
     "turns": {"turn_over": ["drawing", "turn"], "pair_of": ["drawing"]},
+    "opening": {"opened": ["drawing"]},
+    "marks": {"marks_of": ["drawing"], "sums_of": ["marks", "ends"]},
+    "waist": {"waist_of": ["drawing"]},
+    "colours": {"near_of": ["drawing"], "peeled": ["near", "most"], "coloured": ["near", "most"]},
+    "othermap": {"other_of": ["drawing"], "mirrored": ["drawing"]},
 }
 
 BUILTINS = """len range enumerate zip min max sum abs sorted reversed int str bool list tuple dict set isinstance ord
