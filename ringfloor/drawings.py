@@ -1,6 +1,6 @@
 """Drawings: for each place the ring of the ends that stand round it."""
 
-from ringfloor.errors import NoDrawing, NoOrders, TooMany
+from ringfloor.errors import NoDrawing, NoEnd, NoOrders, TooMany
 from ringfloor.webs import MOST_PLACES, near_places, web_of
 
 
@@ -20,7 +20,7 @@ def drawing_of(rows):
 
 def drawn(web, orders):
     """The drawing of the web whose near places stand in these orders."""
-    if [sorted(order) for order in orders] != near_places(web):
+    if not are_orders(web, orders):
         raise NoOrders("the orders are not those of the near places")
     ends = {}
     for tie, (less, more) in enumerate(web[1]):
@@ -52,9 +52,20 @@ def web_beneath(drawing):
     return web_of(many, sorted(pairs))
 
 
+def are_orders(web, orders):
+    """Whether the web is drawn by these orders."""
+    return [sorted(order) for order in orders] == near_places(web)
+
+
 def mate_of(end):
     """The other end of the same tie."""
     return end ^ 1
+
+
+def check_end(drawing, end):
+    """Refuses a number that no end of the drawing has."""
+    if end < 0 or end >= count_ends(drawing):
+        raise NoEnd(f"the drawing has no end {end}")
 
 
 def count_ends(rows):

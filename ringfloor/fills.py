@@ -18,11 +18,8 @@ def fill_of(drawing, walk):
 
 def numbers_by(lands, walk):
     """The numbers of the lands by which the walk is filled."""
-    owners = {end: at for at, land in enumerate(lands) for end in land}
-    rises = {end: 0 for end in owners}
-    for end in walk:
-        rises[end] += 1
-        rises[mate_of(end)] -= 1
+    owners = owners_of(lands)
+    rises = rises_of(owners, walk)
     numbers = {}
     for start in range(len(lands)):
         if start not in numbers:
@@ -31,6 +28,20 @@ def numbers_by(lands, walk):
             for at, number in found.items():
                 numbers[at] = number - least
     return [numbers[at] for at in range(len(lands))]
+
+
+def owners_of(lands):
+    """For each end the number of the land that has it."""
+    return {end: at for at, land in enumerate(lands) for end in land}
+
+
+def rises_of(owners, walk):
+    """For each end how often the walk has it, less how often the walk has its mate."""
+    rises = {end: 0 for end in owners}
+    for end in walk:
+        rises[end] += 1
+        rises[mate_of(end)] -= 1
+    return rises
 
 
 def part_numbers(lands, owners, rises, start):

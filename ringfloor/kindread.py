@@ -1,17 +1,16 @@
 """The numbers of a drawing of fours or of threes, read from one of its ends."""
 
-from ringfloor.drawings import behind_of, mate_of, ring_from
-from ringfloor.errors import NoEnd, NoKind
+from ringfloor.drawings import behind_of, check_end, mate_of, ring_from
+from ringfloor.errors import NoKind
 from ringfloor.kinds import FOURS_CLOCK, THREES_CLOCK, UP_SLOT
 from ringfloor.lands import lands_of, parts_of
 
 
 def read_kind(drawing, end):
     """The sort, the rows, the columns, the shift and the list lay, read from the end."""
-    behind = behind_of(drawing)
-    if end < 0 or end >= len(behind):
-        raise NoEnd(f"the drawing has no end {end}")
+    check_end(drawing, end)
     sort = sort_of(drawing)
+    behind = behind_of(drawing)
     clock = FOURS_CLOCK if sort == "fours" else THREES_CLOCK
     line = straight_line(behind, end, len(clock))
     rights = []

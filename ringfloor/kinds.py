@@ -21,12 +21,22 @@ THREES_CLOCK = (0, 3, 5, 1, 2, 4)
 def fours(rows, columns, shift):
     """The drawing of fours that these numbers make."""
     check_numbers(rows, columns, shift)
-    return laid_out([rights_of(rows, columns), uppers_of(rows, columns, shift)], FOURS_CLOCK)
+    return fours_by(rows, columns, shift)
 
 
 def threes(rows, columns, shift):
     """The drawing of threes that these numbers make."""
     check_numbers(rows, columns, shift)
+    return threes_by(rows, columns, shift)
+
+
+def fours_by(rows, columns, shift):
+    """The drawing of fours by these numbers, of however many places."""
+    return laid_out([rights_of(rows, columns), uppers_of(rows, columns, shift)], FOURS_CLOCK)
+
+
+def threes_by(rows, columns, shift):
+    """The drawing of threes by these numbers, of however many places."""
     rights = rights_of(rows, columns)
     uppers = uppers_of(rows, columns, shift)
     slants = [rights[upper] for upper in uppers]
@@ -35,12 +45,15 @@ def threes(rows, columns, shift):
 
 def check_numbers(rows, columns, shift):
     """Refuses three numbers of which nothing is made."""
-    if rows < 1 or columns < 1:
-        raise NoNumbers("rows and columns are from 1 on")
-    if shift < 0 or shift >= columns:
-        raise NoNumbers("the shift is from 0 to the columns less 1")
+    if not are_numbers(rows, columns, shift):
+        raise NoNumbers("rows and columns are from 1 on, the shift from 0 to the columns less 1")
     if rows * columns > MOST_KIND_PLACES:
         raise NoNumbers(f"rows times columns are at most {MOST_KIND_PLACES}")
+
+
+def are_numbers(rows, columns, shift):
+    """Whether these are numbers of a drawing of fours or threes, of however many places."""
+    return rows >= 1 and columns >= 1 and 0 <= shift < columns
 
 
 def rights_of(rows, columns):

@@ -1,11 +1,11 @@
 """Points 40 to 42: near ones, places taken away, and colours."""
 
-import itertools
 import random
 import unittest
 
 from checks import check_own, check_refused, full_web, great_drawings, near_of_web, some_drawings, some_webs, tie_places
 from growing import beside, great_grown, grown, kind_numbers, made_kind, named_anew, some_grown
+from nearing import full_near, some_near
 from ringfloor.colours import coloured, near_of, peeled
 from ringfloor.errors import Thick
 from ringfloor.kinds import fours, threes
@@ -21,18 +21,6 @@ def near_by_words(drawing):
     ties = tie_places(drawing)
     return [[q for q in range(len(drawing)) if q != p and ((p, q) in ties or (q, p) in ties)]
             for p in range(len(drawing))]
-
-
-def some_near(chance, many, ties):
-    """A list near of so many places, with so many ties at most."""
-    pairs = list(itertools.combinations(range(many), 2))
-    found = chance.sample(pairs, min(ties, len(pairs)))
-    return [sorted([b for a, b in found if a == p] + [a for a, b in found if b == p]) for p in range(many)]
-
-
-def full_near(many):
-    """Each two places near."""
-    return [[q for q in range(many) if q != p] for p in range(many)]
 
 
 def peeled_by_words(near, most):

@@ -37,6 +37,13 @@ INTERFACE = {
     "waist": {"waist_of": ["drawing"]},
     "colours": {"near_of": ["drawing"], "peeled": ["near", "most"], "coloured": ["near", "most"]},
     "othermap": {"other_of": ["drawing"], "mirrored": ["drawing"]},
+    "layings": {"laid": ["one", "two", "end", "goal"], "alike": ["one", "two"], "selves_of": ["drawing"]},
+    "lookwebs": {"is_flat": ["web", "orders"], "is_heaps": ["web", "heaps"]},
+    "lookwalks": {"is_filled": ["drawing", "walk", "numbers"], "is_marks": ["drawing", "marks"]},
+    "lookcolours": {"is_peeling": ["near", "order", "most"], "is_colouring": ["near", "colours", "most"]},
+    "looklays": {"is_laying": ["one", "two", "lay"],
+                 "is_kind": ["drawing", "sort", "rows", "columns", "shift", "lay"]},
+    "desk": {"Desk": []},
 }
 
 BUILTINS = """len range enumerate zip min max sum abs sorted reversed int str bool list tuple dict set isinstance ord
@@ -48,7 +55,7 @@ METHODS = """append clear copy count endswith extend find get index insert isaln
 CHANGING = "append clear extend insert pop remove reverse setdefault update add discard sort".split()
 # What the subset has, but this package does without, is barred here too: so fewer rules need a look.
 BARRED = (ast.AsyncFunctionDef, ast.Global, ast.Nonlocal, ast.Await, ast.Yield, ast.YieldFrom, ast.With, ast.Try,
-          ast.TryStar, ast.Match, ast.Div, ast.MatMult, ast.Pow, ast.Starred, ast.NamedExpr, ast.GeneratorExp,
+          ast.TryStar, ast.Div, ast.MatMult, ast.Pow, ast.Starred, ast.NamedExpr, ast.GeneratorExp,
           ast.AnnAssign, ast.Assert, ast.Import)
 WORDS = """type typing enum Enum Flag Generic Protocol ABC namedtuple register mro elements open input law eval exec
     compile globals locals vars dir id exit quit help""".split()
@@ -72,6 +79,8 @@ def bound_names(tree):
             yield node.arg
         elif isinstance(node, ast.Name) and isinstance(node.ctx, ast.Store):
             yield node.id
+        elif isinstance(node, ast.MatchAs) and node.name:
+            yield node.name
         elif isinstance(node, ast.alias):
             yield node.asname or node.name
 
@@ -86,6 +95,13 @@ def top_names(tree):
         elif isinstance(node, ast.Assign):
             names.extend(target.id for target in node.targets)
     return names
+
+
+def plain_values(value):
+    """The values of a tuple or a dict, its keys among them, or the value alone."""
+    if isinstance(value, ast.Dict):
+        return value.keys + value.values
+    return value.elts if isinstance(value, ast.Tuple) else [value]
 
 
 def changed_names(body):
@@ -133,7 +149,7 @@ class Language(unittest.TestCase):
             for node in tree.body[1:]:
                 self.assertIsInstance(node, allowed, path)
                 if isinstance(node, ast.Assign):
-                    values = node.value.elts if isinstance(node.value, ast.Tuple) else [node.value]
+                    values = plain_values(node.value)
                     for value in values:
                         self.assertIsInstance(value, ast.Constant, path)
                     self.assertEqual(len(node.targets), 1, path)
@@ -183,12 +199,14 @@ class Language(unittest.TestCase):
                     self.assertFalse(name.startswith("_"), (path, name))
 
     def test_calls_of_builtins_and_methods(self):
+        own = [row.name for _, tree in trees() for node in tree.body if isinstance(node, ast.ClassDef)
+               for row in node.body if isinstance(row, ast.FunctionDef)]
         for path, tree in trees():
             for node in ast.walk(tree):
                 if isinstance(node, ast.Name) and hasattr(builtins, node.id):
                     self.assertIn(node.id, BUILTINS, (path, node.lineno))
                 if isinstance(node, ast.Call) and isinstance(node.func, ast.Attribute):
-                    self.assertIn(node.func.attr, METHODS + ["__init__"], (path, node.lineno))
+                    self.assertIn(node.func.attr, METHODS + own, (path, node.lineno))
 
     def test_no_loop_changes_what_it_goes_over(self):
         for path, tree in trees():
@@ -197,6 +215,41 @@ class Language(unittest.TestCase):
                 if isinstance(node, ast.For) and not ast.unparse(node.iter).startswith("list("):
                     over = {name.id for name in ast.walk(node.iter) if isinstance(name, ast.Name)}
                     self.assertFalse(over & set(changed_names(node.body)), (path, node.lineno))
+
+    def test_match(self):
+        for path, tree in trees():
+            for node in ast.walk(tree):
+                if isinstance(node, ast.FunctionDef):
+                    names = {name.id for name in ast.walk(node)
+                             if isinstance(name, ast.Name) and isinstance(name.ctx, ast.Store)}
+                    names |= {name.arg for name in ast.walk(node) if isinstance(name, ast.arg)}
+                    for case in [case for case in ast.walk(node) if isinstance(case, ast.match_case)]:
+                        self.check_case(case, names, (path, case.pattern.lineno))
+
+    def check_case(self, case, names, where):
+        """That a case is a literal first word and names that mean nothing else in the function."""
+        self.assertIsNone(case.guard, where)
+        self.assertIsInstance(case.pattern, ast.MatchSequence, where)
+        first, *others = case.pattern.patterns
+        self.assertIsInstance(first, ast.MatchValue, where)
+        self.assertIsInstance(first.value.value, str, where)
+        for other in others:
+            self.assertIsInstance(other, ast.MatchAs, where)
+            self.assertIsNone(other.pattern, where)
+            self.assertNotIn(other.name, names, where)
+
+    def test_classes(self):
+        for path, tree in trees():
+            for node in tree.body:
+                if isinstance(node, ast.ClassDef):
+                    methods = [row.name for row in node.body if isinstance(row, ast.FunctionDef)]
+                    fields = [one.attr for one in ast.walk(node) if isinstance(one, ast.Attribute)
+                              and isinstance(one.ctx, ast.Store)]
+                    self.assertEqual(len(methods), len(set(methods)), (path, node.name))
+                    self.assertFalse(set(methods) & set(fields), (path, node.name))
+                    self.assertFalse((set(methods) | set(fields)) & set(METHODS + WORDS), (path, node.name))
+                    for name in methods:
+                        self.assertTrue(name == "__init__" or not name.startswith("_"), (path, name))
 
     def test_strings(self):
         for path, tree in trees():
@@ -212,7 +265,14 @@ class Interface(unittest.TestCase):
             for function, arguments in functions.items():
                 found = getattr(module, function)
                 self.assertEqual(found.__module__, "ringfloor." + name)
-                self.assertEqual(list(inspect.signature(found).parameters), arguments)
+                parameters = inspect.signature(found).parameters
+                self.assertEqual(list(parameters), arguments)
+                for argument in parameters.values():
+                    self.assertEqual(argument.default, 6 if argument.name == "most" else argument.empty)
+
+    def test_a_desk_does_a_line(self):
+        method = vars(importlib.import_module("ringfloor.desk").Desk)["do"]
+        self.assertEqual(list(inspect.signature(method).parameters), ["self", "line"])
 
 
 if __name__ == "__main__":
